@@ -1,0 +1,1 @@
+"""Meetrows: the least sets of names that meet every row."""
