@@ -3,73 +3,7 @@ import unittest
 
 from meetrows.errors import BadName, BadRow, MeetError, NoMeet, NoRow, TooMany, Unread
 from meetrows.sets import is_name, rising
-
-
-class Stubborn:
-    """A thing that can be neither compared, hashed, measured nor written out."""
-
-    def refuse(self, *_):
-        raise RuntimeError("asked")
-
-    __eq__ = __lt__ = __hash__ = __len__ = __iter__ = __repr__ = __str__ = __bool__ = refuse
-
-
-WRONG_TEXTS = {
-    "empty": "",
-    "nine letters": "abcdefghi",
-    "many letters": "a" * 1000,
-    "capital": "A",
-    "capital first": "Abc",
-    "capital last": "abC",
-    "digit": "7",
-    "digit last": "a1",
-    "blank": " ",
-    "blank first": " a",
-    "blank between": "a b",
-    "blank last": "a ",
-    "tab": "a\tb",
-    "line end": "\n",
-    "line end last": "abc\n",
-    "line end behind eight": "abcdefgh\n",
-    "carriage return": "abc\r",
-    "zero character": "abc\0",
-    "minus": "-",
-    "underscore": "a_b",
-    "full stop": "a.b",
-    "just ahead of a": "`",
-    "just behind z": "{",
-    "a with two dots": "\u00e4",
-    "sharp s last": "gro\u00df",
-    "i without a dot": "\u0131",
-    "small ordinal sign": "\u00aa",
-    "letter of another script": "\u0430",
-    "wide letter": "\uff41",
-    "letter with a mark behind it": "a\u0301",
-    "half a letter": "\ud835",
-}
-
-OTHER_KINDS = {
-    "zero": 0,
-    "number": 7,
-    "huge number": 10 ** 5000,
-    "fraction": 1.5,
-    "True": True,
-    "False": False,
-    "None": None,
-    "list": [],
-    "list of a name": ["a"],
-    "tuple": (),
-    "tuple of a name": ("a",),
-    "bytes": b"abc",
-    "no bytes": b"",
-    "dict": {"a": 1},
-    "set": {"a"},
-    "function": len,
-    "class": str,
-    "stubborn": Stubborn(),
-}
-
-NO_NAMES = {**WRONG_TEXTS, **OTHER_KINDS}
+from things import NO_NAMES
 
 
 class IsName(unittest.TestCase):

@@ -3,11 +3,7 @@ import unittest
 from itertools import combinations, permutations, product
 
 from meetrows.sets import least_of, meets, ranked, within
-
-
-def subsets(names):
-    """All sets of some of the names, each rising, the shorter ones first."""
-    return [list(one) for many in range(len(names) + 1) for one in combinations(names, many)]
+from things import spoil, subsets
 
 
 def stands_ahead(one, other):
@@ -18,13 +14,6 @@ def stands_ahead(one, other):
         if mine != theirs:
             return mine < theirs
     return False
-
-
-def spoil(sets):
-    """Changes a list of sets and each set in it."""
-    for one in sets:
-        one.append("spoilt")
-    sets.append(["spoilt"])
 
 
 # Names that are beginnings of one another, and such as differ in one letter only.
